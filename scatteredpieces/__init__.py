@@ -1,0 +1,1 @@
+"""What a text holds, letter by letter, with gaps."""

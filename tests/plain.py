@@ -1,0 +1,65 @@
+"""What several tests need: values of any kind, texts, and plain listings to compare with."""
+
+from itertools import combinations, product
+
+ALPHABET = "abcdefghijklmnopqrstuvwxyz"
+HUGE = 10 ** 60 - 1
+
+
+def deep(levels):
+    value = "a"
+    for level in range(levels):
+        value = [value] if level % 2 else (value, {"a": level})
+    return value
+
+
+# Values that are neither integers nor strings.
+OTHER_KINDS = [
+    True, False, None, (), ("a",), ("a", "b"), [], ["a"], [0], [[]], {}, {"a": "b"}, {0: 0}, {(0, 0): [0]},
+    (1, 2), ["a", ("b", {"c": None})], deep(20),
+]
+# Strings that have a sign that is no letter from a to z; ` and { stand beside a and z.
+NO_TEXTS = [
+    " ", "A", "Z", "0", "1", "-1", "`", "{", "a`", "{z", "~", "\n", "\t", "a\n", "\na", "a b", "ab ", " ab", "aB",
+    "Ab", "abcD", "ab1", "a-b", "a.b", "_", "True", "None", "a" * 199 + "A",
+]
+# All values that are no texts.
+BAD_TEXTS = OTHER_KINDS + NO_TEXTS + [0, 1, -1, 97, HUGE, -HUGE]
+# All values that are no integers from 0 on.
+BAD_NUMBERS = OTHER_KINDS + NO_TEXTS + ["", "a", -1, -2, -HUGE]
+
+LONG_TEXTS = [
+    "a" * 200, "ab" * 100, "abc" * 66 + "ab", (ALPHABET * 8)[:200], "a" * 100 + "b" * 100,
+    (("ab" * 7 + "cba" * 3) * 9)[:200],
+    "".join("abc"[(n * n + n // 7) % 3] for n in range(200)), "".join(ALPHABET[n * n * n % 23] for n in range(200)),
+]
+
+
+def short_texts():
+    """List texts for which all pieces can be listed plainly."""
+    texts = ["".join(word) for size in range(6) for word in product("abc", repeat=size)]
+    return texts + ["zyxzyx", "banana", "mississippi", "abcdefgh", "hgfedcba", "aaaaaaaa", "abababab", "zazbzcz"]
+
+
+def plain_pieces(text, length):
+    """List the unlike pieces by striking out letters in all ways."""
+    return sorted({"".join(letters) for letters in combinations(text, length)})
+
+
+def total_pieces(text):
+    """Count all unlike pieces, of any length, by the rule of doubling."""
+    total = 1
+    before = {}
+    for letter in text:
+        before[letter], total = total, 2 * total - before.get(letter, 0)
+    return total
+
+
+def caught(error, function, *values, **named):
+    """Give the error that the call raises; fail if it raises none of just this class."""
+    try:
+        function(*values, **named)
+    except Exception as raised:
+        assert raised.__class__ is error, (raised.__class__, function, values, named)
+        return raised
+    raise AssertionError(("nothing raised", error, function, values, named))

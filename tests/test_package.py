@@ -1,0 +1,52 @@
+"""The interface stands where the document lists it, and the files keep to the sizes and signs allowed."""
+
+import ast
+import inspect
+import unittest
+from importlib import import_module
+from pathlib import Path
+
+FOLDER = Path(__file__).resolve().parent.parent / "scatteredpieces"
+INTERFACE = {
+    "texts": {
+        "is_text": ["value"], "is_letters": ["value"], "holds": ["text", "piece"], "first_places": ["text", "piece"],
+        "last_places": ["text", "piece"], "pieces": ["text", "length"],
+    },
+    "counts": {"counts": ["text"], "nth_piece": ["text", "length", "number"], "number_of": ["text", "piece"]},
+}
+
+
+class PackageTest(unittest.TestCase):
+    def test_interface(self):
+        for file, functions in INTERFACE.items():
+            module = import_module("scatteredpieces." + file)
+            for name, parameters in functions.items():
+                with self.subTest(file=file, name=name):
+                    function = getattr(module, name)
+                    self.assertEqual(function.__module__, module.__name__)
+                    self.assertEqual(list(inspect.signature(function).parameters), parameters)
+
+    def test_errors_are_defined_in_their_file(self):
+        module = import_module("scatteredpieces.errors")
+        for kind in module.PieceError.__subclasses__() + [module.PieceError]:
+            self.assertEqual(kind.__module__, module.__name__)
+
+    def test_only_python_files(self):
+        others = [path.name for path in FOLDER.rglob("*") if path.suffix != ".py" and "__pycache__" not in path.parts]
+        self.assertEqual(others, [])
+
+    def test_sizes_and_signs(self):
+        for path in FOLDER.rglob("*.py"):
+            with self.subTest(path=path.name):
+                source = path.read_text(encoding="utf-8")
+                lines = source.split("\n")
+                self.assertLess(len(lines), 400)
+                self.assertLessEqual(max(len(line) for line in lines), 120)
+                self.assertTrue(all(sign == "\n" or " " <= sign <= "~" for sign in source))
+                for node in ast.walk(ast.parse(source)):
+                    if isinstance(node, ast.FunctionDef):
+                        self.assertLessEqual(node.end_lineno - node.lineno + 1, 40)
+
+
+if __name__ == "__main__":
+    unittest.main()
