@@ -1,6 +1,6 @@
 """Texts, strings of letters from a to z, and the pieces that they hold."""
 
-from scatteredpieces.errors import BadLength, BadText, NoPiece
+from scatteredpieces.errors import BadLength, BadReach, BadText, NoPiece, NoPlace
 
 ALPHABET = "abcdefghijklmnopqrstuvwxyz"
 
@@ -30,6 +30,25 @@ def check_length(value):
     """Raise BadLength for any value that is no integer from 0 on."""
     if not is_from_zero(value):
         raise BadLength(value)
+
+
+def check_reach(value):
+    """Raise BadReach for any value that is no integer from 0 on."""
+    if not is_from_zero(value):
+        raise BadReach(value)
+
+
+def check_texts_and_reach(one, other, k):
+    """Raise BadText or BadReach for the first one that is no text, or no integer from 0 on."""
+    check_text(one)
+    check_text(other)
+    check_reach(k)
+
+
+def check_place(text, value):
+    """Raise NoPlace for any value that is no place of the text."""
+    if not is_from_zero(value) or value >= len(text):
+        raise NoPlace(value)
 
 
 def followers(text):

@@ -37,13 +37,23 @@ LONG_TEXTS = [
 
 def short_texts():
     """List texts for which all pieces can be listed plainly."""
-    texts = ["".join(word) for size in range(6) for word in product("abc", repeat=size)]
-    return texts + ["zyxzyx", "banana", "mississippi", "abcdefgh", "hgfedcba", "aaaaaaaa", "abababab", "zazbzcz"]
+    others = ["zyxzyx", "banana", "mississippi", "abcdefgh", "hgfedcba", "aaaaaaaa", "abababab", "zazbzcz"]
+    return all_texts("abc", 5) + others
 
 
 def plain_pieces(text, length):
     """List the unlike pieces by striking out letters in all ways."""
     return sorted({"".join(letters) for letters in combinations(text, length)})
+
+
+def all_texts(letters, longest):
+    """List all texts over the letters of at most so many letters, the shorter ones first, then ascending."""
+    return ["".join(word) for size in range(longest + 1) for word in product(letters, repeat=size)]
+
+
+def piece_set(text, most):
+    """Give the set of the unlike pieces of at most so many letters."""
+    return frozenset("".join(letters) for size in range(most + 1) for letters in combinations(text, size))
 
 
 def total_pieces(text):

@@ -13,6 +13,17 @@ INTERFACE = {
         "last_places": ["text", "piece"], "pieces": ["text", "length"],
     },
     "counts": {"counts": ["text"], "nth_piece": ["text", "length", "number"], "number_of": ["text", "piece"]},
+    "ways": {
+        "ahead": ["text"], "behind": ["text"], "leads": ["text", "place"], "are_leads": ["text", "place", "value"],
+    },
+    "likeness": {
+        "parting": ["one", "other"], "alike": ["one", "other", "k"], "likeness": ["one", "other"],
+        "table": ["one", "other", "k"], "is_table": ["one", "other", "k", "value"],
+    },
+    "shortest": {
+        "spare_places": ["text", "k"], "stepped": ["text", "k", "step"], "shortest": ["text", "k"],
+        "steps": ["text", "k"], "are_steps": ["one", "other", "k", "value"],
+    },
 }
 
 
