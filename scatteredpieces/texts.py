@@ -1,6 +1,6 @@
 """Texts, strings of letters from a to z, and the pieces that they hold."""
 
-from scatteredpieces.errors import BadLength, BadReach, BadText, NoPiece, NoPlace
+from scatteredpieces.errors import BadLength, BadLetters, BadReach, BadText, NoPiece, NoPlace
 
 ALPHABET = "abcdefghijklmnopqrstuvwxyz"
 
@@ -15,6 +15,11 @@ def is_letters(value):
     return is_text(value) and value != "" and value == "".join(sorted(set(value)))
 
 
+def is_over(value, letters):
+    """Tell whether any value is a text over the letters."""
+    return isinstance(value, str) and all([sign in letters for sign in value])
+
+
 def is_from_zero(value):
     """Tell whether any value is an integer from 0 on; a bool is no integer."""
     return isinstance(value, int) and not isinstance(value, bool) and value >= 0
@@ -24,6 +29,12 @@ def check_text(value):
     """Raise BadText for any value that is no text."""
     if not is_text(value):
         raise BadText(value)
+
+
+def check_letters(value):
+    """Raise BadLetters for any value that is no letters."""
+    if not is_letters(value):
+        raise BadLetters(value)
 
 
 def check_length(value):
@@ -73,11 +84,16 @@ def reached_places(text, piece):
     return places
 
 
+def is_piece(text, piece):
+    """Tell whether a text is a piece of the other one."""
+    return len(reached_places(text, piece)) == len(piece)
+
+
 def holds(text, piece):
     """Tell whether the piece is a piece of the text."""
     check_text(text)
     check_text(piece)
-    return len(reached_places(text, piece)) == len(piece)
+    return is_piece(text, piece)
 
 
 def first_places(text, piece):
@@ -93,6 +109,11 @@ def last_places(text, piece):
         raise NoPiece(piece)
     backward = reached_places(text[::-1], piece[::-1])
     return [len(text) - 1 - place for place in reversed(backward)]
+
+
+def least_first(texts):
+    """List the texts, the shorter ones first, those of one length ascending."""
+    return sorted(texts, key=lambda text: (len(text), text))
 
 
 def stretches(choices, start, many, limit):

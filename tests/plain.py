@@ -25,6 +25,10 @@ NO_TEXTS = [
 ]
 # All values that are no texts.
 BAD_TEXTS = OTHER_KINDS + NO_TEXTS + [0, 1, -1, 97, HUGE, -HUGE]
+# All values that are no letters.
+BAD_LETTERS = BAD_TEXTS + [
+    "", "aa", "ba", "abb", "aab", "aba", "abca", "acb", "zz", "zy", ALPHABET + "a", ALPHABET[::-1],
+]
 # All values that are no integers from 0 on.
 BAD_NUMBERS = OTHER_KINDS + NO_TEXTS + ["", "a", -1, -2, -HUGE]
 
@@ -73,3 +77,37 @@ def caught(error, function, *values, **named):
         assert raised.__class__ is error, (raised.__class__, function, values, named)
         return raised
     raise AssertionError(("nothing raised", error, function, values, named))
+
+
+def nested(word, levels):
+    """Give a saying of so many levels, whose words are all of one kind, or go down on one side."""
+    saying = ("has", "ab")
+    for level in range(levels - 1):
+        if word == "not":
+            saying = ("not", saying)
+        elif word == "left":
+            saying = ("and" if level % 2 else "or", saying, ("has", "b" * (level % 3)))
+        elif word == "right":
+            saying = ("or" if level % 2 else "and", ("not", ("has", "ba")) if level else ("has", "a"), saying)
+        else:
+            saying = (word, saying, saying) if level < 3 else (word, saying, ("has", "a" * (level % 3)))
+    return saying
+
+
+def some_sayings():
+    """List sayings of many forms, drawn by plain arithmetic, that reach up to three letters."""
+    pieces = ["", "a", "b", "ab", "ba", "aa", "bb", "aba", "bab", "abb", "c", "ac", "cb", "bca", "baa", "bbb"]
+    sayings = [("has", piece) for piece in pieces]
+    for number in range(150):
+        one = sayings[(number * number * 7 + 3 * number) % len(sayings)]
+        other = sayings[(number * 11 + 5) % len(sayings)]
+        if depth(one) > 6 or depth(other) > 6:
+            one, other = sayings[number % 16], sayings[(5 * number + 2) % 16]
+        choices = [("not", one), ("and", one, other), ("or", other, one), ("and", ("not", one), other)]
+        sayings.append(choices[number % 4])
+    return sayings
+
+
+def depth(saying):
+    """Count the levels of a saying."""
+    return 1 if saying[0] == "has" else 1 + max([depth(part) for part in saying[1:]])

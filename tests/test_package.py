@@ -24,7 +24,21 @@ INTERFACE = {
         "spare_places": ["text", "k"], "stepped": ["text", "k", "step"], "shortest": ["text", "k"],
         "steps": ["text", "k"], "are_steps": ["one", "other", "k", "value"],
     },
+    "full": {
+        "rounds": ["text", "letters"], "fullness": ["text", "letters"], "missing": ["text", "letters"],
+        "missing_count": ["text", "letters"],
+    },
+    "kinds": {"Kind": ["text", "k"], "ground": ["letters", "k"], "is_ground": ["letters", "k", "value"]},
+    "sayings": {
+        "is_saying": ["value"], "reach": ["saying"], "keeps": ["text", "saying"], "least_text": ["saying", "letters"],
+        "apart": ["one", "other", "letters"],
+    },
 }
+# The methods that are not signs, each one defined in the class itself.
+METHODS = {
+    ("kinds", "Kind"): {"within": ["other"], "idle_behind": ["letters"], "idle_ahead": ["letters"]},
+}
+SIGNS = {("kinds", "Kind"): ["__init__", "__eq__", "__add__", "__mul__"]}
 
 
 class PackageTest(unittest.TestCase):
@@ -36,6 +50,15 @@ class PackageTest(unittest.TestCase):
                     function = getattr(module, name)
                     self.assertEqual(function.__module__, module.__name__)
                     self.assertEqual(list(inspect.signature(function).parameters), parameters)
+
+    def test_methods(self):
+        for (file, name), methods in METHODS.items():
+            own = vars(getattr(import_module("scatteredpieces." + file), name))
+            for method, parameters in methods.items():
+                with self.subTest(file=file, name=name, method=method):
+                    self.assertEqual(list(inspect.signature(own[method]).parameters)[1:], parameters)
+            for sign in SIGNS[file, name]:
+                self.assertIn(sign, own)
 
     def test_errors_are_defined_in_their_file(self):
         module = import_module("scatteredpieces.errors")
