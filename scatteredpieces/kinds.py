@@ -2,7 +2,7 @@
 
 from scatteredpieces.errors import BadTimes, OtherReach
 from scatteredpieces.likeness import alike
-from scatteredpieces.shortest import shortest
+from scatteredpieces.shortest import is_shortest, shortest
 from scatteredpieces.texts import check_letters, check_reach, followers, is_from_zero, is_over, least_first
 
 
@@ -50,7 +50,6 @@ class Kind:
         self.k = k
 
     def __eq__(self, other):
-        """Tell whether the other value is a kind with the same k and texts."""
         if not isinstance(other, Kind):
             return False
         return self.k == other.k and self.least == other.least
@@ -111,7 +110,7 @@ def is_ground(letters, k, value):
     if "" not in known or len(known) < len(value):
         return False
     for text in value:
-        if shortest(text, k) != text:
+        if not is_shortest(text, k):
             return False
         for letter in letters:
             if shortest(text + letter, k) not in known:

@@ -92,10 +92,14 @@ def least_words(pieces, letters):
     return words
 
 
+def pieces_over(sayings, letters):
+    """List the unlike pieces over the letters that the sayings name."""
+    return sorted({piece for saying in sayings for piece in pieces_of(saying) if is_over(piece, letters)})
+
+
 def settling_words(sayings, letters):
     """List texts over the letters, in their order, that settle the sayings: any text is like one of them."""
-    pieces = sorted({piece for saying in sayings for piece in pieces_of(saying) if is_over(piece, letters)})
-    return list(least_words(pieces, letters).values())
+    return list(least_words(pieces_over(sayings, letters), letters).values())
 
 
 def least_text(saying, letters):

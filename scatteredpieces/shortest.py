@@ -22,6 +22,11 @@ def even_places(text, k):
     ]
 
 
+def falling_places(text, places):
+    """List those of the places at which the letter is behind that of the next place in the alphabet."""
+    return [place for place in places if text[place] > text[place + 1]]
+
+
 def without(text, place):
     """Give the text without the letter at the place."""
     return text[:place] + text[place + 1:]
@@ -74,12 +79,17 @@ def led(text, k):
         spare = spare_places(text, k)
     # A swap leaves the ways of all places as they are, so the same places stay even.
     even = even_places(text, k)
-    falling = [place for place in even if text[place] > text[place + 1]]
+    falling = falling_places(text, even)
     while falling:
         done.append(("swap", falling[0]))
         text = swapped(text, falling[0])
-        falling = [place for place in even if text[place] > text[place + 1]]
+        falling = falling_places(text, even)
     return done, text
+
+
+def is_shortest(text, k):
+    """Tell whether a text is its own shortest text: there is no step that makes it less."""
+    return spare_places(text, k) == [] and falling_places(text, even_places(text, k)) == []
 
 
 def shortest(text, k):

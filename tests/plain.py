@@ -111,3 +111,47 @@ def some_sayings():
 def depth(saying):
     """Count the levels of a saying."""
     return 1 if saying[0] == "has" else 1 + max([depth(part) for part in saying[1:]])
+
+
+def drawn(seed, many):
+    """List whole numbers, drawn by plain arithmetic."""
+    numbers = []
+    for _ in range(many):
+        seed = (seed * 6364136223846793005 + 1442695040888963407) % 2 ** 64
+        numbers.append(seed >> 33)
+    return numbers
+
+
+def drawn_parts(letters, many, seed, form):
+    """Give rows and lets of a machine, drawn by plain arithmetic.
+
+    In the form "any" a row names any places; in the form "onward" just its own and those behind it.
+    """
+    numbers = drawn(seed, many * (len(letters) + 1))
+    rows = []
+    for place in range(many):
+        row = numbers[place * len(letters):(place + 1) * len(letters)]
+        rows.append(tuple([at % many if form == "any" else place + at % (many - place) for at in row]))
+    return rows, [place for place in range(many) if numbers[-1 - place] % 3 == 0]
+
+
+def small_parts():
+    """List letters, rows and lets of many small machines."""
+    found = [
+        ("ab", [(1, 0), (1, 1)], [1]), ("ab", [(1, 1), (0, 0)], [0]), ("a", [(0,)], []), ("a", [(0,)], [0]),
+        ("a", [(1,), (0,)], [1]), ("a", [(1,), (2,), (3,), (3,)], [3]), ("ab", [(0, 0)], [0]), ("z", [(1,), (1,)], [1]),
+        ("ab", [(1, 2), (1, 1), (2, 2)], [1]), ("ab", [(1, 0), (1, 0)], [1]), ("ab", [(1, 0), (1, 2), (2, 2)], [2]),
+        ("abc", [(1, 0, 0), (1, 2, 1), (2, 2, 2)], [0, 2]), ("ac", [(1, 0), (1, 2), (3, 2), (3, 3)], [1, 3]),
+        ("ab", [(0, 0), (1, 0)], [1]), ("ab", [(1, 1), (2, 2), (1, 2)], [2]), ("bd", [(2, 1), (1, 1), (2, 1)], [2]),
+    ]
+    for seed in range(60):
+        letters = ["a", "ab", "ab", "abc", "xyz"][seed % 5]
+        found.append((letters, *drawn_parts(letters, 1 + seed % 6, seed, "any" if seed % 4 == 0 else "onward")))
+    return found
+
+
+def plain_place(letters, rows, text, place=0):
+    """Give the place at which a machine ends, that goes through the text letter by letter."""
+    for letter in text:
+        place = dict(zip(letters, rows[place]))[letter]
+    return place

@@ -33,12 +33,35 @@ INTERFACE = {
         "is_saying": ["value"], "reach": ["saying"], "keeps": ["text", "saying"], "least_text": ["saying", "letters"],
         "apart": ["one", "other", "letters"],
     },
+    "machines": {
+        "Machine": ["letters", "rows", "lets"], "told_by": ["machine", "k"], "pairs": ["machine", "k"],
+        "is_pairs": ["machine", "k", "value"], "split_by": ["machine", "k"], "kinds_of": ["machine", "k"],
+        "least_reach": ["machine", "most"],
+    },
+    "rolls": {"Roll": [], "replayed": ["events"]},
+    "signs": {
+        "format_saying": ["saying"], "format_machine": ["machine"], "read_saying": ["signs"], "read_machine": ["signs"],
+    },
+    "compiling": {
+        "machine_of": ["saying", "letters"], "opposite": ["machine"], "fewest": ["machine"], "few_paper": ["machine"],
+        "is_few_paper": ["machine", "value"], "parted": ["one", "other"], "shared": ["one", "other"],
+        "is_shared": ["one", "other", "value"],
+    },
 }
 # The methods that are not signs, each one defined in the class itself.
 METHODS = {
     ("kinds", "Kind"): {"within": ["other"], "idle_behind": ["letters"], "idle_ahead": ["letters"]},
+    ("machines", "Machine"): {"lets_by": ["text"], "least_text": []},
+    ("rolls", "Roll"): {
+        "put_behind": ["letter"], "put_ahead": ["letter"], "strike": ["place"], "undo": [], "fork": [], "kind": ["k"],
+        "says_more": ["k"],
+    },
 }
-SIGNS = {("kinds", "Kind"): ["__init__", "__eq__", "__add__", "__mul__"]}
+SIGNS = {
+    ("kinds", "Kind"): ["__init__", "__eq__", "__add__", "__mul__"], ("machines", "Machine"): ["__init__", "__eq__"],
+    ("rolls", "Roll"): ["__init__"],
+}
+PROPERTIES = {("machines", "Machine"): ["letters", "rows", "lets"], ("rolls", "Roll"): ["text", "history"]}
 
 
 class PackageTest(unittest.TestCase):
@@ -59,6 +82,8 @@ class PackageTest(unittest.TestCase):
                     self.assertEqual(list(inspect.signature(own[method]).parameters)[1:], parameters)
             for sign in SIGNS[file, name]:
                 self.assertIn(sign, own)
+            for name_of_property in PROPERTIES.get((file, name), []):
+                self.assertIs(type(own[name_of_property]), property)
 
     def test_errors_are_defined_in_their_file(self):
         module = import_module("scatteredpieces.errors")
